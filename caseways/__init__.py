@@ -1,0 +1,1 @@
+"""Caseways: a choice of many, led by tables, tests and trees."""
