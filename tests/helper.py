@@ -7,6 +7,21 @@ import itertools
 
 KINDS = [(width, sign) for width in range(1, 41) for sign in (0, 1)]
 SMALL_KINDS = [(width, sign) for width, sign in KINDS if width <= 6]
+DEPTH = 80
+
+
+def deep_things():
+    """Things eighty deep, of lists, of tuples and of both in turn."""
+    things = []
+    for wraps in ([list], [tuple], [list, tuple]):
+        thing = 7
+        for depth in range(DEPTH):
+            thing = wraps[depth % len(wraps)]([thing])
+        things.append(thing)
+    return things
+
+
+ODD_THINGS = [None, True, False, "", "is", "8", (), [], (0,), [0], ("is", 0)] + deep_things()
 
 
 def numbers_of_kind(width, sign):
@@ -158,3 +173,149 @@ def some_choice(chance, width, sign, most_cases, most_items):
             items.append(item)
         cases.append(items)
     return (width, sign, cases)
+
+
+def cut_points(chance, width, sign, many):
+    """Rising numbers of a kind, the least one first; some side by side, some at the far end."""
+    kind = numbers_of_kind(width, sign)
+    points = {kind[0]}
+    for _ in range(many):
+        point = chance.choice([kind[-1], chance.choice(kind), chance.choice(sorted(points)) + 1])
+        points.add(min(point, kind[-1]))
+    return sorted(points)
+
+
+def items_of_span(chance, low, high):
+    """Items that pick together the numbers from low to high, and no others."""
+    if low == high and chance.randrange(2):
+        return [("is", low)]
+    if low < high and not chance.randrange(3):
+        middle = chance.randrange(low, high)
+        return [("from", middle + 1, high), ("from", low, middle)]
+    return [("from", low, high)]
+
+
+def some_cut_choice(chance, width, sign, most_cases, cuts):
+    """A choice without clashes: the kind is cut, each piece goes to one case or to the rest."""
+    cases = [[] for _ in range(chance.randrange(most_cases + 1))]
+    points = cut_points(chance, width, sign, cuts)
+    for low, behind in zip(points, points[1:] + [numbers_of_kind(width, sign)[-1] + 1]):
+        label = chance.randrange(len(cases) + 1)
+        if label < len(cases):
+            cases[label] += items_of_span(chance, low, behind - 1)
+    for items in cases:
+        chance.shuffle(items)
+    return (width, sign, cases)
+
+
+def some_bits_choice(chance, width, sign, most_cases):
+    """A choice without clashes: all items are bits of one mask, no two values are alike."""
+    mask = some_bits(chance, width)[1]
+    values = {chance.randrange(2 ** width) & mask for _ in range(chance.choice([1, 2, 12]))}
+    cases = [[] for _ in range(chance.randrange(most_cases + 1))]
+    for value in sorted(values):
+        label = chance.randrange(len(cases) + 1)
+        if label < len(cases):
+            cases[label].append(("bits", mask, value))
+    return (width, sign, cases)
+
+
+def plain_stretches(choice, edges):
+    """The stretches of a choice, by going over rising numbers at which labels may change."""
+    told = []
+    for edge in edges:
+        label = plain_picked(choice, edge)
+        if not told or told[-1][2] != label:
+            if told:
+                told[-1][1] = edge - 1
+            told.append([edge, None, label])
+    told[-1][1] = numbers_of_kind(*choice[:2])[-1]
+    return [tuple(stretch) for stretch in told]
+
+
+def some_stretches(chance, many, labels, most_wide, low=None):
+    """A row of stretches, each of at most so many numbers."""
+    low = chance.randrange(-20, 20) if low is None else low
+    told = []
+    for _ in range(many):
+        unlike = [label for label in range(labels) if not told or label != told[-1][2]]
+        wide = 1 if chance.randrange(3) == 0 else chance.randrange(1, most_wide + 1)
+        told.append((low, low + wide - 1, chance.choice(unlike)))
+        low += wide
+    return told
+
+
+def plain_spans(numbers):
+    """Rising numbers as pairs (low, high), as many side by side as may be."""
+    told = []
+    for number in numbers:
+        if told and told[-1][1] == number - 1:
+            told[-1] = (told[-1][0], number)
+        else:
+            told.append((number, number))
+    return told
+
+
+def plain_run(rows, number):
+    """(label, done) of a number, or (None, row) where it reads that row beyond its ends."""
+    at = 0
+    done = []
+    while True:
+        done.append(at)
+        word, *parts = rows[at]
+        going = at + 1
+        if word == "pick":
+            return (parts[0], done)
+        if word == "is" and number == parts[0]:
+            going = parts[1]
+        if word == "within" and number in range(parts[0], parts[1] + 1):
+            going = parts[2]
+        if word == "below" and number < parts[0]:
+            going = parts[1]
+        if word == "mask":
+            low, wide, bits, goal = parts
+            if number not in range(low, low + wide):
+                return (None, at)
+            if bits // 2 ** (number - low) % 2 == 1:
+                going = goal
+        if word == "table":
+            low, goals = parts
+            places = dict(enumerate(goals, low))
+            if number not in places:
+                return (None, at)
+            going = places[number]
+        at = going
+
+
+def some_row(chance, own, many, low, high, most_wide):
+    """A row for place own of many; its numbers lie about those from low to high."""
+    def some_number():
+        return chance.randrange(low - 2, high + 3)
+
+    goal = chance.choice([own + 1, many - 1, chance.randrange(own + 1, many)])
+    form = chance.randrange(6)
+    if form == 0:
+        return ("is", some_number(), goal)
+    if form == 1:
+        return ("within", *sorted([some_number(), some_number()]), goal)
+    if form == 2:
+        return ("below", some_number(), goal)
+    first = chance.randrange(low - most_wide // 4, low + most_wide // 4 + 1)
+    wide = chance.randrange(most_wide // 2, most_wide + 1)
+    if form == 3:
+        wide = min(wide, 64)
+        return ("mask", first, wide, chance.randrange(2 ** wide), goal)
+    if form == 4:
+        return ("table", first, tuple(chance.randrange(own + 1, many) for _ in range(wide)))
+    return ("pick", chance.randrange(3))
+
+
+def some_rows(chance, many, low, high, most_wide):
+    """Rows of all forms, the last one a pick; picks ahead of it are few."""
+    rows = []
+    for own in range(many - 1):
+        row = some_row(chance, own, many, low, high, most_wide)
+        while row[0] == "pick" and chance.randrange(4):
+            row = some_row(chance, own, many, low, high, most_wide)
+        rows.append(row)
+    return rows + [("pick", chance.randrange(3))]

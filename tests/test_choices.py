@@ -7,6 +7,7 @@ import unittest
 from caseways.choices import is_choice, picked, picks
 from helper import (
     KINDS,
+    ODD_THINGS,
     SMALL_KINDS,
     all_items,
     edges_of,
@@ -15,23 +16,6 @@ from helper import (
     plain_picks,
     some_choice,
 )
-
-DEPTH = 80
-
-
-def deep_things():
-    """Things eighty deep, of lists, of tuples and of both in turn."""
-    things = []
-    for wraps in ([list], [tuple], [list, tuple]):
-        thing = 7
-        for depth in range(DEPTH):
-            thing = wraps[depth % len(wraps)]([thing])
-        things.append(thing)
-    return things
-
-
-ODD_THINGS = [None, True, False, "", "is", "8", (), [], (0,), [0], ("is", 0)] + deep_things()
-
 
 class Looking(unittest.TestCase):
     def yes(self, thing):
