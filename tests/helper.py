@@ -319,3 +319,145 @@ def some_rows(chance, many, low, high, most_wide):
             row = some_row(chance, own, many, low, high, most_wide)
         rows.append(row)
     return rows + [("pick", chance.randrange(3))]
+
+
+def all_of(stretches):
+    """The numbers of all stretches of a row."""
+    return list(range(len(stretches)))
+
+
+def across(stretches, left):
+    """How many numbers lie from the first stretch left to the last one."""
+    return len(range(stretches[min(left)][0], stretches[max(left)][1] + 1))
+
+
+def is_whole(thing):
+    """Whether a thing is a number, and not True or False."""
+    return type(thing) is int
+
+
+def plain_is_plan(stretches, left, thing):
+    """Whether a thing is a plan for the stretches left, form by form as the document tells them."""
+    if type(thing) is not tuple:
+        return False
+    labels = {stretches[k][2] for k in left}
+    match thing:
+        case ("pick", label):
+            return is_whole(label) and labels == {label}
+        case ("is" | "within" as word, k, rest):
+            if not is_whole(k) or k not in left or left == [k]:
+                return False
+            if word == "is" and stretches[k][0] != stretches[k][1]:
+                return False
+            return plain_is_plan(stretches, [other for other in left if other != k], rest)
+        case ("below", k, one, other):
+            if not is_whole(k) or k not in left or k == min(left):
+                return False
+            ahead = [part for part in left if part < k]
+            behind = [part for part in left if part >= k]
+            return plain_is_plan(stretches, ahead, one) and plain_is_plan(stretches, behind, other)
+        case ("mask", label, rest):
+            if not is_whole(label) or label not in labels or labels == {label} or across(stretches, left) > 64:
+                return False
+            return plain_is_plan(stretches, [k for k in left if stretches[k][2] != label], rest)
+        case ("table",):
+            return across(stretches, left) <= 200
+    return False
+
+
+def some_plan(chance, stretches, left):
+    """A plan for the stretches left, of any forms that may stand there."""
+    labels = sorted({stretches[k][2] for k in left})
+    words = ["table"] if across(stretches, left) <= 200 and not chance.randrange(3) else []
+    if len(labels) == 1:
+        words += ["pick"] * 3
+    if len(left) > 1:
+        words += ["is", "within", "below", "below"]
+    if len(labels) > 1 and across(stretches, left) <= 64:
+        words += ["mask", "mask"]
+    word = chance.choice(words)
+    if word == "table":
+        return ("table",)
+    if word == "pick":
+        return ("pick", labels[0])
+    if word == "mask":
+        label = chance.choice(labels)
+        return ("mask", label, some_plan(chance, stretches, [k for k in left if stretches[k][2] != label]))
+    if word == "below":
+        k = chance.choice(left[1:])
+        one, other = [part for part in left if part < k], [part for part in left if part >= k]
+        return ("below", k, some_plan(chance, stretches, one), some_plan(chance, stretches, other))
+    k = chance.choice(left)
+    if stretches[k][0] != stretches[k][1]:
+        word = "within"
+    return (word, k, some_plan(chance, stretches, [other for other in left if other != k]))
+
+
+def plain_way(stretches, plan, k):
+    """The tests on the way of stretch k: each with its word, what it tests for, and who is left there."""
+    left = all_of(stretches)
+    way = []
+    while plan[0] != "pick":
+        word, *parts = plan
+        way.append((word, parts[0] if parts else None, left))
+        if word == "table" or (word in ("is", "within") and parts[0] == k):
+            break
+        if word == "mask" and parts[0] == stretches[k][2]:
+            break
+        if word == "below":
+            left = [other for other in left if (other < parts[0]) == (k < parts[0])]
+            plan = parts[1] if k < parts[0] else parts[2]
+        elif word == "mask":
+            left = [other for other in left if stretches[other][2] != parts[0]]
+            plan = parts[1]
+        else:
+            left = [other for other in left if other != parts[0]]
+            plan = parts[1]
+    return way
+
+
+WORDS = ["is", "within", "below", "mask", "table"]
+
+
+def plain_cost(stretches, weights, prices, plan):
+    """The cost of a plan, by going down each stretch's way."""
+    cost = 0
+    for k, weight in enumerate(weights):
+        for word, _, _ in plain_way(stretches, plan, k):
+            cost += weight * prices[WORDS.index(word)]
+    return cost
+
+
+def plain_room(stretches, sizes, plan):
+    """The room of a plan: each test that is on some stretch's way once."""
+    tests = {(word, which, tuple(left)) for k in all_of(stretches) for word, which, left in plain_way(stretches, plan, k)}
+    room = 0
+    for word, _, left in tests:
+        room += sizes[WORDS.index(word)]
+        if word == "table":
+            room += sizes[5] * across(stretches, left)
+    return room
+
+
+def halves_of(stretches, first, behind):
+    """Each plan of below and pick alone for the stretches from first to ahead of behind."""
+    if behind - first == 1:
+        return [("pick", stretches[first][2])]
+    return [
+        ("below", k, one, other)
+        for k in range(first + 1, behind)
+        for one in halves_of(stretches, first, k)
+        for other in halves_of(stretches, k, behind)
+    ]
+
+
+def some_weights(chance, many):
+    """Weights of many stretches: small ones, alike ones, great ones, some of 0."""
+    most = chance.choice([1, 3, 10, 10 ** 6])
+    return [chance.choice([0, chance.randrange(most + 1), chance.randrange(most + 1)]) for _ in range(many)]
+
+
+def some_prices(chance, many):
+    """So many prices or sizes."""
+    most = chance.choice([1, 3, 99])
+    return tuple(chance.randrange(1, most + 1) for _ in range(many))
