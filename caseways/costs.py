@@ -6,22 +6,28 @@ from caseways.plans import numbers_across, steps_of
 TESTS = ("is", "within", "below", "mask", "table")
 
 
-def tests_of(stretches, plan):
-    """Tell the triples (left, word, place among prices) of all tests of a plan."""
-    return [(left, part[0], TESTS.index(part[0])) for left, part in steps_of(stretches, plan) if part[0] != "pick"]
+def step_costs(weights, prices, left):
+    """Tell, by their words, what steps cost for the stretches left."""
+    # All that is left at a test does it, the tested stretch too.
+    together = sum([weights[k] for k in left])
+    costs = {word: price * together for word, price in zip(TESTS, prices)}
+    costs["pick"] = 0
+    return costs
+
+
+def step_rooms(stretches, sizes, left):
+    """Tell, by their words, the room of steps for the stretches left."""
+    rooms = dict(zip(TESTS, sizes))
+    rooms["table"] += sizes[-1] * numbers_across(stretches, left)
+    rooms["pick"] = 0
+    return rooms
 
 
 def cost_of(stretches, weights, prices, plan):
     """Tell what a plan costs: each stretch's weight times the prices of the tests on its way."""
-    # All that is left at a test does it, the tested stretch too.
-    return sum([prices[at] * sum([weights[k] for k in left]) for left, word, at in tests_of(stretches, plan)])
+    return sum([step_costs(weights, prices, left)[part[0]] for left, part in steps_of(stretches, plan)])
 
 
 def room_of(stretches, sizes, plan):
     """Tell the room of a plan: the sizes of its tests, of a table its places too."""
-    room = 0
-    for left, word, at in tests_of(stretches, plan):
-        room += sizes[at]
-        if word == "table":
-            room += sizes[-1] * numbers_across(stretches, left)
-    return room
+    return sum([step_rooms(stretches, sizes, left)[part[0]] for left, part in steps_of(stretches, plan)])

@@ -1,6 +1,6 @@
 """Rows of tests: plans that test stretch by stretch, and pick one label for the others."""
 
-from caseways.costs import cost_of
+from caseways.costs import TESTS
 
 
 def word_of_test(stretch, prices):
@@ -10,32 +10,56 @@ def word_of_test(stretch, prices):
     return "within"
 
 
-def tests_in_order(stretches, weights, prices, label):
-    """Tell the pairs (word, stretch) of the tests of all stretches of other labels, in order."""
+def tests_in_order(stretches, weights, prices, left):
+    """Tell the pairs (word, stretch) of the tests of all stretches left, in order."""
     ranked = []
-    for k, stretch in enumerate(stretches):
-        if stretch[2] != label:
-            word = word_of_test(stretch, prices)
-            # There are but two prices, so weight times the other one ranks any two tests rightly.
-            other = prices[1] if word == "is" else prices[0]
-            ranked.append((-weights[k] * other, k, word))
+    for k in left:
+        word = word_of_test(stretches[k], prices)
+        # There are but two prices, so weight times the other one ranks any two tests rightly.
+        other = prices[1] if word == "is" else prices[0]
+        ranked.append((-weights[k] * other, k, word))
     return [(word, k) for rank, k, word in sorted(ranked)]
+
+
+def row_by(stretches, tests, label):
+    """Tell the plan that does those tests that are for other labels, and then picks the label."""
+    plan = ("pick", label)
+    for word, k in reversed(tests):
+        if stretches[k][2] != label:
+            plan = (word, k, plan)
+    return plan
+
+
+def row_cost(stretches, weights, prices, tests, label):
+    """Tell what the plan of row_by costs for the stretches that the tests are for."""
+    waiting = sum([weights[k] for word, k in tests])
+    cost = 0
+    for word, k in tests:
+        if stretches[k][2] != label:
+            cost += prices[TESTS.index(word)] * waiting
+            waiting -= weights[k]
+    return cost
+
+
+def rows_for(stretches, weights, prices, left):
+    """Tell the pairs (cost, plan) of the rows of tests for the stretches left, by rising labels."""
+    # The order of two tests is the same whatever label is picked.
+    tests = tests_in_order(stretches, weights, prices, left)
+    labels = sorted({stretches[k][2] for k in left})
+    return [
+        (row_cost(stretches, weights, prices, tests, label), row_by(stretches, tests, label))
+        for label in labels
+    ]
 
 
 def row_plan(stretches, weights, prices, label):
     """Tell the plan that tests each stretch of another label, in the order that costs least."""
-    plan = ("pick", label)
-    for word, k in reversed(tests_in_order(stretches, weights, prices, label)):
-        plan = (word, k, plan)
-    return plan
+    tests = tests_in_order(stretches, weights, prices, list(range(len(stretches))))
+    return row_by(stretches, tests, label)
 
 
 def best_row(stretches, weights, prices):
     """Tell the row plan of the label with which it costs least, the least of several."""
-    best = None
-    for label in sorted({stretch[2] for stretch in stretches}):
-        plan = row_plan(stretches, weights, prices, label)
-        cost = cost_of(stretches, weights, prices, plan)
-        if best is None or cost < best[0]:
-            best = (cost, plan)
-    return best[1]
+    rows = rows_for(stretches, weights, prices, list(range(len(stretches))))
+    cost, plan = min(rows, key=lambda row: row[0])
+    return plan

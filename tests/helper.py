@@ -3,6 +3,7 @@
 Nothing here imports the program, so that a fault of it can't hide itself.
 """
 
+import functools
 import itertools
 
 KINDS = [(width, sign) for width in range(1, 41) for sign in (0, 1)]
@@ -461,3 +462,79 @@ def some_prices(chance, many):
     """So many prices or sizes."""
     most = chance.choice([1, 3, 99])
     return tuple(chance.randrange(1, most + 1) for _ in range(many))
+
+
+def plain_row_plan(stretches, weights, prices, left, label):
+    """The row of tests of the stretches left by a label, any two tests put in order as the document has it."""
+    def price_of(test):
+        return prices[WORDS.index(test[0])]
+
+    def order(one, other):
+        mine, yours = weights[one[1]] * price_of(other), weights[other[1]] * price_of(one)
+        return yours - mine or one[1] - other[1]
+
+    tests = []
+    for k in left:
+        low, high, own = stretches[k]
+        if own != label:
+            tests.append(("is" if low == high and prices[0] <= prices[1] else "within", k))
+    plan = ("pick", label)
+    for test in reversed(sorted(tests, key=functools.cmp_to_key(order))):
+        plan = test + (plan,)
+    return plan
+
+
+def all_in_runs(stretches, weights, prices, first, behind):
+    """Each plan in runs for the stretches from first to ahead of behind."""
+    left = list(range(first, behind))
+    labels = sorted({stretches[k][2] for k in left})
+    plans = [plain_row_plan(stretches, weights, prices, left, label) for label in labels]
+    if across(stretches, left) <= 200:
+        plans.append(("table",))
+    if across(stretches, left) <= 64 and len(labels) == 2:
+        plans += [("mask", labels[0], ("pick", labels[1])), ("mask", labels[1], ("pick", labels[0]))]
+    for k in left[1:]:
+        for one in all_in_runs(stretches, weights, prices, first, k):
+            plans += [("below", k, one, other) for other in all_in_runs(stretches, weights, prices, k, behind)]
+    return plans
+
+
+def all_plans(stretches, left):
+    """Each plan for the stretches left, of any form that the document tells."""
+    labels = sorted({stretches[k][2] for k in left})
+    plans = [("pick", label) for label in labels if len(labels) == 1]
+    if across(stretches, left) <= 200:
+        plans.append(("table",))
+    if across(stretches, left) <= 64 and len(labels) > 1:
+        for label in labels:
+            plans += [("mask", label, rest) for rest in all_plans(stretches, [k for k in left if stretches[k][2] != label])]
+    if len(left) == 1:
+        return plans
+    for k in left:
+        words = ["is", "within"] if stretches[k][0] == stretches[k][1] else ["within"]
+        rests = all_plans(stretches, [other for other in left if other != k])
+        plans += [(word, k, rest) for word in words for rest in rests]
+        if k > left[0]:
+            ones = all_plans(stretches, [other for other in left if other < k])
+            others = all_plans(stretches, [other for other in left if other >= k])
+            plans += [("below", k, one, other) for one in ones for other in others]
+    return plans
+
+
+def plain_bounds(stretches, left, charge, number_of):
+    """What each way costs for the stretches left: its own charge, and the numbers of those left to plans."""
+    labels = sorted({stretches[k][2] for k in left})
+    ways = [("pick", [])] if len(labels) == 1 else []
+    if across(stretches, left) <= 200:
+        ways.append(("table", []))
+    if across(stretches, left) <= 64 and len(labels) > 1:
+        ways += [("mask", [[k for k in left if stretches[k][2] != label]]) for label in labels]
+    if len(left) > 1:
+        for k in left:
+            rest = [other for other in left if other != k]
+            ways.append(("within", [rest]))
+            if stretches[k][0] == stretches[k][1]:
+                ways.append(("is", [rest]))
+        for place in range(1, len(left)):
+            ways.append(("below", [left[:place], left[place:]]))
+    return [charge(word, left) + sum(number_of(part) for part in parts) for word, parts in ways]
