@@ -54,8 +54,8 @@ def by_pattern(choice):
     return (width, 0, told)
 
 
-def label_at(stretches, number):
-    """Tell the label of the stretch that has a number, or None."""
+def place_at(stretches, number):
+    """Tell the place of the stretch that has a number, or None."""
     first = 0
     behind = len(stretches)
     while first < behind:
@@ -66,8 +66,14 @@ def label_at(stretches, number):
         elif number > high:
             first = middle + 1
         else:
-            return label
+            return middle
     return None
+
+
+def label_at(stretches, number):
+    """Tell the label of the stretch that has a number, or None."""
+    place = place_at(stretches, number)
+    return None if place is None else stretches[place][2]
 
 
 def is_stretch(thing):

@@ -5,6 +5,7 @@ Nothing here imports the program, so that a fault of it can't hide itself.
 
 import functools
 import itertools
+import re
 
 KINDS = [(width, sign) for width in range(1, 41) for sign in (0, 1)]
 SMALL_KINDS = [(width, sign) for width, sign in KINDS if width <= 6]
@@ -538,3 +539,73 @@ def plain_bounds(stretches, left, charge, number_of):
         for place in range(1, len(left)):
             ways.append(("below", [left[:place], left[place:]]))
     return [charge(word, left) + sum(number_of(part) for part in parts) for word, parts in ways]
+
+
+# How texts write a number, and words that look much like one.
+NUMBER = re.compile(r"0|-?[1-9][0-9]{0,19}")
+BAD_NUMBERS = [
+    "", "-", "+", "--1", "-0", "00", "01", "-01", "+1", "+0", "1-", "1+", "1.", ".1", "1.0", "1,0", "1_0", "1e0", "0x1", "0b1",
+    "x", "one", "\u0661", "\u00b2", "\u2460", "\uff11", "1\u0661", "\u22121", "1\u00a0", "\ufeff1", "\t1", "1\t", "1\r", "1\x0b",
+    "1" * 21, "-" + "1" * 21, "0" * 21, "0" * 20 + "1", "9" * 400, "None", "True", "1/1", "'1'", "\"1\"", "1\x00",
+]
+
+
+def plain_lines(text):
+    """The rows of a text, parted by line feeds alone."""
+    return text.split(chr(10))
+
+
+def plain_words(line):
+    """The words of a row, parted by single blanks; None where they are not."""
+    words = line.split(chr(32))
+    return None if "" in words else words
+
+
+def plain_numbers(words):
+    """The numbers that words write, or None."""
+    return [int(word) for word in words] if all(NUMBER.fullmatch(word) for word in words) else None
+
+
+def is_kind_text(line):
+    """Whether a row is the first one of a choice's text."""
+    return re.fullmatch(r"choice ([1-9]|[123][0-9]|40) [01]", line) is not None
+
+
+def plain_item(width, sign, word):
+    """The item that a word writes, or None."""
+    kind = numbers_of_kind(width, sign)
+    if NUMBER.fullmatch(word):
+        return ("is", int(word)) if int(word) in kind else None
+    for part, name, there in (("..", "from", kind), ("&", "bits", range(2 ** width))):
+        parts = word.split(part)
+        if len(parts) == 2 and plain_numbers(parts):
+            one, other = plain_numbers(parts)
+            if one in there and other in there and (name == "bits" or one <= other):
+                return (name, one, other)
+    return None
+
+
+def plain_case(width, sign, line):
+    """The items of a case's row, or None."""
+    words = plain_words(line)
+    if not words or words[0] != "case":
+        return None
+    items = [plain_item(width, sign, word) for word in words[1:]]
+    return None if None in items else items
+
+
+def garbled(chance, text, letters):
+    """A text with a few letters changed, taken out or put in; now and then none."""
+    for _ in range(chance.randrange(4)):
+        at = chance.randrange(len(text) + 1)
+        deed = chance.randrange(4)
+        if deed == 0:
+            text = text[:at] + chance.choice(letters) + text[at:]
+        elif deed == 1:
+            text = text[:at] + text[at + 1:]
+        elif deed == 2:
+            text = text[:at] + chance.choice(letters) + text[at + 1:]
+        else:
+            word = chance.choice(text.split()) if text.split() else ""
+            text = text[:at] + word + text[at:]
+    return text

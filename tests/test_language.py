@@ -254,6 +254,18 @@ class Language(unittest.TestCase):
                     for name in node.names:
                         self.assertIn(name.name, defined, file.name)
 
+    def test_no_two_files_import_from_each_other(self):
+        behind = {}
+        for file in sorted(PACKAGE.glob("*.py")):
+            nodes = [node for node in ast.parse(file.read_text()).body if isinstance(node, ast.ImportFrom)]
+            behind[file.stem] = {node.module.split(".")[1] for node in nodes if node.module.startswith("caseways.")}
+        # File by file: what imports only from files that are done can be done, too.
+        done = set()
+        while done != set(behind):
+            ready = {name for name in behind if behind[name] <= done} - done
+            self.assertTrue(ready, sorted(set(behind) - done))
+            done |= ready
+
 
 if __name__ == "__main__":
     unittest.main()
